@@ -41,20 +41,33 @@ func Share(p api.Past, qty int) (value int) {
 	return value
 }
 
-// Record changes l as the movement m does, which has these costs and refers to the movement at this index, and returns l with what it appended.
-func Record(l []api.Past, at int, m api.Move, c api.Cost) []api.Past {
+// Next returns the element that a movement with these costs adds, or what becomes of the one to which it refers: p, which is empty if it refers to none.
+func Next(p api.Past, m api.Move, c api.Cost) api.Past {
 	// Value and Var together are what a receipt costs, what an issue takes away, and what a return of a customer brings back.
 	value := c.Value + c.Var
 	switch m.Kind {
 	case api.Receipt:
-		return append(l, api.Past{Seq: m.Seq, Kind: m.Kind, Lot: m.Lot, Qty: m.Qty, Value: value})
+		return api.Past{Seq: m.Seq, Kind: m.Kind, Lot: m.Lot, Qty: m.Qty, Value: value}
 	case api.Issue:
-		return append(l, api.Past{Seq: m.Seq, Kind: m.Kind, Lot: m.Lot, Qty: m.Qty, Value: -value})
+		return api.Past{Seq: m.Seq, Kind: m.Kind, Lot: m.Lot, Qty: m.Qty, Value: -value}
 	case api.Back:
-		l[at].Used += m.Qty
-		l[at].UsedValue += value
+		p.Used += m.Qty
+		p.UsedValue += value
 	case api.Send:
-		l[at].Used += m.Qty
+		p.Used += m.Qty
 	}
-	return l
+	return p
+}
+
+// Record changes l as a movement with these costs does, which refers to the element at this index, or to none if it is -1, and returns l with what it appended.
+func Record(l []api.Past, at int, m api.Move, c api.Cost) []api.Past {
+	if at >= 0 {
+		l[at] = Next(l[at], m, c)
+		return l
+	}
+	added := Next(api.Past{}, m, c)
+	if added == (api.Past{}) {
+		return l
+	}
+	return append(l, added)
 }
